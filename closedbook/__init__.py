@@ -1,0 +1,1 @@
+"""Stembook: closed sets and the rules that hold."""

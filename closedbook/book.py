@@ -1,4 +1,4 @@
-"""The book and the calls on it.
+"""The calls on a book.
 
 Each call's function takes the book and what the call is handed, and gives back the list of what
 is answered. A refusal is a list of its one number, given back before anything is changed.
@@ -8,33 +8,15 @@ from closedbook.closure import closed_sets, closure, is_spare, next_closed, rule
 from closedbook.closure import sets_above, sets_below, things_having
 from closedbook.layout import Reader
 from closedbook.lines import MOST_THINGS, lines_of_text, text_of_things, thing_of_line
-from closedbook.order import MOST_PROPERTIES, every_property
-
-WRONG_NUMBER = -1
-NO_ROOM = -2
-NONE_THERE = -3
-TOO_MANY = -4
-WRONG_FORM = -6
+from closedbook.order import MOST_PROPERTIES
+from closedbook.refusals import NONE_THERE, NOT_AS_TOLD, NO_ROOM, TOO_MANY, WRONG_NUMBER
+from closedbook.rules import MOST_RULES, follow, is_needless, rule_follows
+from closedbook.state import Book, base_in, begin, everything_in, goes_beyond, keep_rule, put_in
+from closedbook.talk import MOST_QUESTIONS, question, say_yes, show, teach
 
 
-class Book:
-    def __init__(self):
-        self.width = 0
-        self.things = []
-
-
-def begin(book, width, things):
-    book.width = width
-    book.things = things
-
-
-def everything_in(book):
-    return every_property(book.width)
-
-
-def goes_beyond(book, subset):
-    """Whether the set has properties from m on."""
-    return subset >> book.width != 0
+def any_beyond(book, subsets):
+    return any([goes_beyond(book, subset) for subset in subsets])
 
 
 def closure_in(book, subset):
@@ -60,7 +42,7 @@ def call_new(book, given):
 def call_read(book, given):
     lines = lines_of_text(given[0])
     if lines is None:
-        return [WRONG_FORM]
+        return [NOT_AS_TOLD]
     begin(book, len(lines[0]), [thing_of_line(line) for line in lines])
     return [len(lines)]
 
@@ -75,8 +57,7 @@ def call_thing(book, given):
         return [WRONG_NUMBER]
     if len(book.things) >= MOST_THINGS:
         return [NO_ROOM]
-    book.things.append(subset)
-    return [len(book.things) - 1]
+    return [put_in(book, subset)]
 
 
 def call_closed(book, given):
@@ -136,11 +117,82 @@ def call_spare(book, given):
 
 
 def call_holds(book, given):
-    premise = given[0]
-    conclusion = given[1]
-    if goes_beyond(book, premise) or goes_beyond(book, conclusion):
+    if any_beyond(book, given):
         return [WRONG_NUMBER]
-    return [int(rule_holds(everything_in(book), book.things, premise, conclusion))]
+    return [int(rule_holds(everything_in(book), book.things, given[0], given[1]))]
+
+
+def call_base(book, given):
+    base = base_in(book)
+    if base is None:
+        return [TOO_MANY]
+    told = [len(base)]
+    for rule in base:
+        told.extend(list(rule))
+    return told
+
+
+def call_say(book, given):
+    if any_beyond(book, given):
+        return [WRONG_NUMBER]
+    if len(book.rules) >= MOST_RULES:
+        return [NO_ROOM]
+    return [keep_rule(book, given[0], given[1])]
+
+
+def call_rule(book, given):
+    number = given[0]
+    if number >= len(book.rules):
+        return [WRONG_NUMBER]
+    return [0] + list(book.rules[number])
+
+
+def call_forget(book, given):
+    number = given[0]
+    if number > len(book.rules):
+        return [WRONG_NUMBER]
+    book.rules = book.rules[:number]
+    return [0]
+
+
+def call_follow(book, given):
+    subset = given[0]
+    if goes_beyond(book, subset):
+        return [WRONG_NUMBER]
+    return [follow(book.rules, subset)]
+
+
+def call_follows(book, given):
+    if any_beyond(book, given):
+        return [WRONG_NUMBER]
+    return [int(rule_follows(book.rules, given[0], given[1]))]
+
+
+def call_needless(book, given):
+    number = given[0]
+    if number >= len(book.rules):
+        return [WRONG_NUMBER]
+    return [int(is_needless(book.rules, number))]
+
+
+def call_ask(book, given):
+    return question(book)
+
+
+def call_yes(book, given):
+    return say_yes(book)
+
+
+def call_shown(book, given):
+    return show(book, given[0])
+
+
+def call_teach(book, given):
+    most = given[0]
+    crowd = given[1]
+    if most > MOST_QUESTIONS or any_beyond(book, crowd):
+        return [WRONG_NUMBER]
+    return teach(book, most, crowd)
 
 
 CALLS = {
@@ -156,6 +208,17 @@ CALLS = {
     10: call_under,
     11: call_spare,
     12: call_holds,
+    13: call_base,
+    14: call_say,
+    15: call_rule,
+    16: call_forget,
+    17: call_follow,
+    18: call_follows,
+    19: call_needless,
+    20: call_ask,
+    21: call_yes,
+    22: call_shown,
+    23: call_teach,
 }
 
 

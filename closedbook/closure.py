@@ -23,20 +23,24 @@ def rule_holds(everything, things, premise, conclusion):
     return lies_in(conclusion, closure(everything, things, premise))
 
 
-def next_closed(everything, things, subset):
-    """The first closed set behind subset, or None.
+def first_behind(everything, subset, close):
+    """The first set behind subset that close leaves as it is, or None.
 
-    Of the closed sets behind it those come first that agree with it the furthest, so the
-    greatest property that can be the first difference is looked for.
+    Of those behind it the ones come first that agree with it the furthest, so the greatest
+    property that can be the first difference is looked for.
     """
     for place in range(everything.bit_length() - 1, -1, -1):
         bit = 1 << place
         if subset & bit == 0:
             before = subset & (bit - 1)
-            found = closure(everything, things, before | bit)
+            found = close(before | bit)
             if found & (bit - 1) == before:
                 return found
     return None
+
+
+def next_closed(everything, things, subset):
+    return first_behind(everything, subset, lambda start: closure(everything, things, start))
 
 
 def closed_sets(everything, things):

@@ -5,6 +5,8 @@ from closedbook.book import answers
 NUMBERS = {
     "new": 1, "read": 2, "print": 3, "thing": 4, "closed": 5, "having": 6,
     "next": 7, "closeds": 8, "over": 9, "under": 10, "spare": 11, "holds": 12,
+    "base": 13, "say": 14, "rule": 15, "forget": 16, "follow": 17, "follows": 18,
+    "needless": 19, "ask": 20, "yes": 21, "shown": 22, "teach": 23,
 }
 
 
@@ -52,6 +54,17 @@ def book_of(width, things):
     return [("new", width)] + [("thing", thing) for thing in things]
 
 
+def say_all(rules):
+    return [("say", premise, conclusion) for premise, conclusion in rules]
+
+
+def pairs(told):
+    """The rules that base answers, as pairs of premise and conclusion."""
+    if len(told) != 1 + 2 * told[0]:
+        raise AssertionError("not a base: %r" % told)
+    return list(zip(told[1::2], told[2::2]))
+
+
 def text_of(width, things):
     """The things' text, which makes a book by a single call."""
     return "".join(
@@ -64,5 +77,26 @@ def ask_of(width, things, *calls):
     return ask(("read", text_of(width, things)), *calls)[1:]
 
 
-# Calls that together show all that a book of at most 1,000 closed sets holds.
+class Line:
+    """A list of calls that grows, so that a call can be chosen by what was answered before."""
+
+    def __init__(self, *calls):
+        self.calls = list(calls)
+        self.told = ask(*calls)
+
+    def call(self, *call):
+        self.calls.append(call)
+        told = ask(*self.calls)
+        if told[:-1] != self.told:
+            raise AssertionError("earlier answers changed: %r" % self.calls)
+        self.told = told
+        return told[-1]
+
+
+# Calls that together show all that a book of at most 1,000 closed sets and without rules holds.
 LOOK = ["print", ("closed", 0), ("having", 0), "closeds"]
+
+
+def look_at(rules):
+    """Calls that show the things, and that there are just so many rules, and which."""
+    return ["print", ("having", 0)] + [("rule", n) for n in range(rules + 1)]

@@ -48,6 +48,17 @@ def bound_names(tree):
             yield node.attr
 
 
+def local_names(tree):
+    """Every parameter and every local of a file's functions."""
+    for function in ast.walk(tree):
+        if isinstance(function, (ast.FunctionDef, ast.Lambda)):
+            for node in ast.walk(function):
+                if isinstance(node, ast.arg):
+                    yield node.arg
+                elif isinstance(node, ast.Name) and isinstance(node.ctx, ast.Store):
+                    yield node.id
+
+
 class Form(unittest.TestCase):
     def each(self):
         for path in files():
@@ -104,6 +115,52 @@ class Form(unittest.TestCase):
             for node in ast.walk(tree):
                 if isinstance(node, ast.Name) and node.id in vars(builtins):
                     self.assertIn(node.id, ALLOWED_NAMES, path)
+
+    def test_locals_are_called_like_nothing_of_the_file_s_top(self):
+        for path, text, tree in self.each():
+            top = set()
+            for node in tree.body:
+                if isinstance(node, ast.ImportFrom):
+                    top.update(name.name for name in node.names)
+                elif isinstance(node, (ast.FunctionDef, ast.ClassDef)):
+                    top.add(node.name)
+                elif isinstance(node, ast.Assign):
+                    top.add(node.targets[0].id)
+            self.assertEqual(top & set(local_names(tree)), set(), path)
+
+    def test_the_top_of_a_file(self):
+        for path, text, tree in self.each():
+            bound = []
+            for node in tree.body[1:]:
+                self.assertIsInstance(node, (ast.ImportFrom, ast.FunctionDef, ast.ClassDef, ast.Assign), path)
+                if isinstance(node, ast.ImportFrom):
+                    bound += [name.name for name in node.names]
+                else:
+                    bound.append(node.targets[0].id if isinstance(node, ast.Assign) else node.name)
+            self.assertEqual(len(bound), len(set(bound)), path)
+
+    def test_no_file_draws_from_itself(self):
+        drawn = {}
+        for path, text, tree in self.each():
+            drawn[path.stem] = {n.module.split(".")[1] for n in tree.body if isinstance(n, ast.ImportFrom)}
+        while drawn:
+            free = [name for name in drawn if not drawn[name]]
+            self.assertTrue(free, drawn)
+            drawn = {name: drawn[name] - set(free) for name in drawn if name not in free}
+
+    def test_comprehensions_powers_and_is(self):
+        for path, text, tree in self.each():
+            for node in ast.walk(tree):
+                if isinstance(node, ast.ListComp):
+                    self.assertEqual(len(node.generators), 1, path)
+                    self.assertLessEqual(len(node.generators[0].ifs), 1, path)
+                if isinstance(node, ast.BinOp):
+                    self.assertNotIsInstance(node.op, ast.Pow, path)
+                if isinstance(node, ast.Compare):
+                    for sign, other in zip(node.ops, node.comparators):
+                        if isinstance(sign, (ast.Is, ast.IsNot)):
+                            self.assertIsInstance(other, ast.Constant, path)
+                            self.assertIn(other.value, (None, True, False), path)
 
     def test_methods(self):
         trees = [tree for path, text, tree in self.each()]
